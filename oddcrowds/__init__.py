@@ -1,0 +1,1 @@
+"""Oddcrowds: who calls decides when, or where, but never both."""
