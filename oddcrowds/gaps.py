@@ -3,7 +3,7 @@
 
 def gaps(standing):
     """Return the list of the gaps, as triples (left, width, kind), from left to right."""
-    voices_at = _voices_by_place(standing)
+    voices_at = voices_by_place(standing)
     places = sorted(voices_at)
     found = []
     voices = 0
@@ -14,7 +14,8 @@ def gaps(standing):
     return found
 
 
-def _voices_by_place(standing):
+def voices_by_place(standing):
+    """Return the dict from each place to the number of voices there."""
     voices_at = {}
     for _, place, voice in standing.people():
         voices_at[place] = voices_at.get(place, 0) + voice

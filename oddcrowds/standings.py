@@ -107,6 +107,16 @@ def _without_places(standing):
     return [(name, voice) for name, _, voice in standing.people()]
 
 
+def places_in_order(standing):
+    """Return the tuple of the places of all people, in the order of the standing."""
+    return tuple([person[1] for person in standing.people()])
+
+
+def placed(standing, places):
+    """Return the standing with like people at these places, told in the order of the standing."""
+    return Standing([(name, place, voice) for (name, _, voice), place in zip(standing.people(), places)])
+
+
 def moved_person(standing, name, place):
     """Return the standing in which a person has this place."""
     return _with_replaced(standing, (name, place, standing.voice(name)))

@@ -14,6 +14,13 @@ FUNCTIONS = {
     "lexemes": {"lexemes": 1},
     "standtexts": {"standing_text": 1, "read_standing": 1},
     "gaps": {"gaps": 1, "odd_sum": 1, "even_sum": 1},
+    "heights": {"height_at": 2, "greatest_height": 1, "greatest_fall": 1, "loud_places": 1},
+    "sums": {"voice_places": 1, "turn_sum": 1},
+    "levels": {"places_at": 2, "least_height": 1, "count_above": 2},
+    "calls": {"is_loud": 2, "can_call": 2, "called": 2, "callers": 1, "is_quiet": 1, "times_of": 2},
+    "scripts": {"standings_along": 2, "walked": 2, "first_bad": 2, "calls_of": 1, "script_text": 1, "read_script": 1},
+    "plainwalks": {"reached": 1, "numbers_by_walks": 2, "script_by_walks": 3},
+    "backs": {"count_back": 1, "back_standings": 1, "comes_from": 2},
 }
 CLASSES = {
     "standings": {"Standing": {"__init__": 1, "people": 0, "names": 0, "place": 1, "voice": 1, "has_name": 1,

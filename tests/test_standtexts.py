@@ -1,7 +1,7 @@
 import random
-import re
 import unittest
 
+import plain
 from oddcrowds.errors import BadStanding, BadText
 from oddcrowds.standings import Standing
 from oddcrowds.standtexts import read_standing, standing_text
@@ -29,25 +29,7 @@ NEXT = {
 
 
 def plain_wrong_place(text):
-    state, place = 0, 0
-    while place < len(text):
-        if text[place] in " \n":
-            place += 1
-            continue
-        lexeme = re.match("[a-z][a-z0-9]*|0|[1-9][0-9]*|[{};-]", text[place:])
-        if lexeme is None:
-            return place
-        lexeme = lexeme.group()
-        is_word = lexeme[0] in "abcdefghijklmnopqrstuvwxyz"
-        if is_word and len(lexeme) > 12:
-            return place
-        kinds = [lexeme] + ["word"] * is_word + ["number"] * lexeme.isdigit()
-        kinds += ["positive"] * (lexeme.isdigit() and lexeme != "0")
-        states = [NEXT[state][kind] for kind in kinds if kind in NEXT[state]]
-        if not states:
-            return place
-        state, place = states[0], place + len(lexeme)
-    return None if state == 9 else len(text)
+    return plain.wrong_place(text, NEXT)
 
 
 class WriteTest(unittest.TestCase):
