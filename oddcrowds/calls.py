@@ -62,12 +62,19 @@ def called_up_to(standing, name, most):
     behind = standing
     made = 0
     while made < most and can_call(behind, name):
-        place = behind.place(name)
-        # Until a gap beside the crowd is gone, nothing about its voices changes.
-        times = min(most - made, _nearest(behind, place))
-        behind = _nearer(behind, place, times)
+        behind, times = called_stretch(behind, name, most - made)
         made += times
     return behind, made
+
+
+def called_stretch(standing, name, most):
+    """Return the standing behind calls of a crowd that can call, at most so many, and their number.
+
+    They end with the call by which a gap beside the crowd is gone: until then nothing about its voices changes.
+    """
+    place = standing.place(name)
+    times = min(most, _nearest(standing, place))
+    return _nearer(standing, place, times), times
 
 
 def _nearest(standing, place):

@@ -1,5 +1,7 @@
 """The gaps of a standing and their kinds."""
 
+from oddcrowds.standings import placed, places_in_order
+
 
 def gaps(standing):
     """Return the list of the gaps, as triples (left, width, kind), from left to right."""
@@ -34,3 +36,13 @@ def even_sum(standing):
 
 def _sum_of_kind(standing, kind):
     return sum([width for _, width, own_kind in gaps(standing) if own_kind == kind])
+
+
+def with_widths(standing, moved, widths):
+    """Return the standing whose first place has moved so far to the right, and whose gaps have become so wide.
+
+    The widths are those of all gaps of the given standing, also 0.
+    """
+    places = standing.places()
+    new_place = {place: places[0] + moved + sum(widths[:k]) for k, place in enumerate(places)}
+    return placed(standing, [new_place[place] for place in places_in_order(standing)])

@@ -117,6 +117,14 @@ def placed(standing, places):
     return Standing([(name, place, voice) for (name, _, voice), place in zip(standing.people(), places)])
 
 
+def crowd_names(standing):
+    """Return the list of the first person of each crowd, in the order of the standing, from left to right."""
+    first_at = {}
+    for name, place, _ in standing.people():
+        first_at.setdefault(place, name)
+    return [first_at[place] for place in sorted(first_at)]
+
+
 def moved_person(standing, name, place):
     """Return the standing in which a person has this place."""
     return _with_replaced(standing, (name, place, standing.voice(name)))

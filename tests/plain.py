@@ -80,6 +80,87 @@ def numbers_from(people):
     return found
 
 
+def shares_from(people):
+    """The dict from the people of all standings that are reached to the set of the shares (first, between, last)."""
+    level = {tuple(people): {(0, 0, 0)}}
+    found = {}
+    while level:
+        behind = {}
+        for row, shares in level.items():
+            found.setdefault(row, set()).update(shares)
+            for name in callers(row):
+                k = position(row, name)
+                more = {share[:k] + (share[k] + 1,) + share[k + 1:] for share in shares}
+                behind.setdefault(tuple(called(row, name)), set()).update(more)
+        level = behind
+    return found
+
+
+def position(people, name):
+    """0 for somebody of the first crowd, 2 for one of the last crowd, otherwise 1."""
+    places = sorted({place for _, place, _ in people})
+    at = places.index(place_of(people, name))
+    return 0 if at == 0 else 2 if at == len(places) - 1 else 1
+
+
+def gaps(people):
+    """The list of the gaps (left, width, kind), from left to right."""
+    places = sorted({place for _, place, _ in people})
+    found = []
+    for left, right in zip(places, places[1:]):
+        voices = sum(voice for _, place, voice in people if place <= left)
+        found.append((left, right - left, "odd" if voices % 2 == 1 else "even"))
+    return found
+
+
+def sum_of(people, kind):
+    return sum(width for _, width, own in gaps(people) if own == kind)
+
+
+def together(people):
+    return len({place for _, place, _ in people}) <= 1
+
+
+def width_of(people):
+    places = [place for _, place, _ in people]
+    return max(places) - min(places) if places else 0
+
+
+def first_place(people):
+    return min([place for _, place, _ in people], default=0)
+
+
+def kept_steps(people, other):
+    """How wide the gaps of people are for other people who are in order with them, as pairs (kind, steps)."""
+    place = {name: at for name, at, _ in other}
+    names = {}
+    for name, at, _ in people:
+        names.setdefault(at, name)
+    row = [place[names[at]] for at in sorted(names)]
+    return [(kind, right - left) for (_, _, kind), left, right in zip(gaps(people), row, row[1:])]
+
+
+def end_key(people, end):
+    """By what ends are ordered: the calls of the first crowd, and the steps that are left of the even gaps."""
+    level = sum_of(people, "odd") - (first_place(end) - first_place(people))
+    return (level, tuple(steps for kind, steps in kept_steps(people, end) if kind == "even"))
+
+
+def ends_of(people, told):
+    """The list of all ends of people, in order; told is what numbers_from tells."""
+    return sorted([list(row) for row in told if not callers(row)], key=lambda end: end_key(people, end))
+
+
+def with_voices(people, rest):
+    """The people, of whom the first one with a voice has none then if that number is odd or even otherwise."""
+    if sum(voice for _, _, voice in people) % 2 == rest:
+        return people
+    if not people:
+        return [("p0", 3, 1)]
+    name, place, voice = people[0]
+    return [(name, place, 1 - voice)] + people[1:]
+
+
 def wrong_place(text, form):
     """The first wrong place of a text, or None. A form tells for each state which state each lexeme leads to.
 

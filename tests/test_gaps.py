@@ -1,7 +1,7 @@
 import random
 import unittest
 
-from oddcrowds.gaps import even_sum, gaps, odd_sum
+from oddcrowds.gaps import even_sum, gaps, odd_sum, with_widths
 from oddcrowds.standings import Standing, shifted_standing
 
 FAR = 10 ** 30
@@ -80,6 +80,21 @@ class GapsTest(unittest.TestCase):
         first.clear()
         self.assertEqual(gaps(standing), [(0, 3, "odd"), (3, 1, "odd"), (4, 5, "even")])
         self.assertEqual(standing, Standing(S))
+
+
+class WithWidthsTest(unittest.TestCase):
+    def check(self, people, moved, widths, places):
+        found = with_widths(Standing(people), moved, widths)
+        self.assertEqual(found, Standing([(name, at, voice) for (name, _, voice), at in zip(people, places)]))
+
+    def test_ordinary(self):
+        self.check(S, 0, [3, 1, 5], [0, 3, 4, 9])
+        self.check(S, 2, [2, 0, 3], [2, 4, 4, 7])
+        self.check(S[::-1], 5, [0, 0, 0], [5, 5, 5, 5])
+
+    def test_nobody_and_one_place(self):
+        self.check([], 7, [], [])
+        self.check([("a", 5, 1), ("b", 5, 0)], -7, [], [-2, -2])
 
 
 if __name__ == "__main__":

@@ -21,6 +21,13 @@ FUNCTIONS = {
     "scripts": {"standings_along": 2, "walked": 2, "first_bad": 2, "calls_of": 1, "script_text": 1, "read_script": 1},
     "plainwalks": {"reached": 1, "numbers_by_walks": 2, "script_by_walks": 3},
     "backs": {"count_back": 1, "back_standings": 1, "comes_from": 2},
+    "meeting": {"meeting_place": 1, "call_numbers": 1, "share_of": 2},
+    "meetscripts": {"meet_script": 2, "judge_meeting": 2},
+    "parting": {"left_calls": 1, "widths": 1, "is_end": 2, "end_of_width": 2},
+    "ends": {"count_ends": 1, "is_settled": 1, "all_ends": 1},
+    "endnumbers": {"end_at": 2, "end_number": 2, "next_end": 2, "drawn_end": 2},
+    "endcounts": {"counts_by_width": 1, "counts_by_place": 1},
+    "twins": {"has_common_end": 2, "common_end": 2},
 }
 CLASSES = {
     "standings": {"Standing": {"__init__": 1, "people": 0, "names": 0, "place": 1, "voice": 1, "has_name": 1,

@@ -2,7 +2,7 @@ import copy
 import unittest
 
 from oddcrowds.errors import BadStanding, UnknownName
-from oddcrowds.standings import (Standing, are_like, moved_person, shifted_standing, turned_standing, voiced,
+from oddcrowds.standings import (Standing, are_like, crowd_names, moved_person, shifted_standing, turned_standing, voiced,
                                  with_person, without_person)
 from values import anything, integers, no_integers, no_words, words
 
@@ -262,6 +262,14 @@ class ChangedTest(unittest.TestCase):
             self.assertEqual(shifted_standing(there, -by), s())
             self.assertIs(are_like(there, s()), True)
         self.assertEqual(shifted_standing(Standing([]), 4), Standing([]))
+
+
+class CrowdNamesTest(unittest.TestCase):
+    def test_the_first_of_each_crowd_from_left_to_right(self):
+        people = [("d", 5, 0), ("b", -2, 1), ("c", 5, 1), ("a", -2, 1), ("e", 0, 0)]
+        self.assertEqual(crowd_names(Standing(people)), ["b", "e", "d"])
+        self.assertEqual(crowd_names(Standing(people[::-1])), ["a", "e", "c"])
+        self.assertEqual(crowd_names(Standing([])), [])
 
 
 class NothingIsSharedTest(unittest.TestCase):
