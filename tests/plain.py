@@ -140,6 +140,70 @@ def kept_steps(people, other):
     return [(kind, right - left) for (_, _, kind), left, right in zip(gaps(people), row, row[1:])]
 
 
+def in_order(people, other):
+    """Whether other people are in order with people, two by two."""
+    goal = {name: at for name, at, _ in other}
+    for name, at, _ in people:
+        for second, further, _ in people:
+            if at <= further and not 0 <= goal[second] - goal[name] <= further - at:
+                return False
+    return True
+
+
+def bounds(people, other):
+    """The bounds as S6.3 tells them, with the heights and the sums K, where other people are in order with people."""
+    odd_voices = sum(voice for _, _, voice in people) % 2 == 1
+    found_heights = heights(people)
+    kept = [steps for _, steps in kept_steps(people, other)]
+    rows = gaps(people)
+    lost = {kind: sum(width - steps for (_, width, own), steps in zip(rows, kept) if own == kind)
+            for kind in ("odd", "even")}
+    more = lost["odd"] - lost["even"]
+    moved = lost["odd"] - (first_place(other) - first_place(people))
+    found = [("first", 0, None)]
+    found += [("last", more, None)] if odd_voices else [("last", None, more), ("moved", moved, moved)]
+    for k, ((left, width, kind), steps) in enumerate(zip(rows, kept)):
+        here = found_heights[left] - sum(own if other_kind == "odd" else -own
+                                         for (_, _, other_kind), own in zip(rows[:k], kept))
+        if steps > 0 and kind == "odd":
+            found.append((k, here, here + width - steps))
+        if steps > 0 and kind == "even":
+            found.append((k, here - (width - steps), here))
+    if odd_voices and not any(kept):
+        found.append(("top", None, max(found_heights.values())))
+    return found
+
+
+def lead_numbers(people, other):
+    """The list of the numbers of calls by which people lead to other people, found by the bounds, perhaps empty."""
+    odd_voices = sum(voice for _, _, voice in people) % 2 == 1
+    if not in_order(people, other):
+        return []
+    pairs = list(zip(gaps(people), kept_steps(people, other)))
+    odds = sum(width - steps for (_, width, own), (_, steps) in pairs if own == "odd")
+    evens = sum(width - steps for (_, width, own), (_, steps) in pairs if own == "even")
+    if odd_voices and first_place(other) - first_place(people) != evens:
+        return []
+    rows = bounds(people, other)
+    least = max(low for _, low, _ in rows if low is not None)
+    most = min(high for _, _, high in rows if high is not None)
+    if not odd_voices:
+        return [odds] if least <= most else []
+    return [evens + calls for calls in range(least, most + 1)]
+
+
+def near(lot, people):
+    """People who stand as these do but for a little."""
+    rows = list(people)
+    if rows and lot.randrange(3):
+        k = lot.randrange(len(rows))
+        rows[k] = (rows[k][0], rows[k][1] + lot.choice([-1, 1]), rows[k][2])
+    else:
+        by = lot.choice([-1, 1])
+        rows = [(name, at + by, voice) for name, at, voice in rows]
+    return rows
+
+
 def end_key(people, end):
     """By what ends are ordered: the calls of the first crowd, and the steps that are left of the even gaps."""
     level = sum_of(people, "odd") - (first_place(end) - first_place(people))

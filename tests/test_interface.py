@@ -28,6 +28,12 @@ FUNCTIONS = {
     "endnumbers": {"end_at": 2, "end_number": 2, "next_end": 2, "drawn_end": 2},
     "endcounts": {"counts_by_width": 1, "counts_by_place": 1},
     "twins": {"has_common_end": 2, "common_end": 2},
+    "leading": {"leads": 2, "all_bounds": 2, "lead_bounds": 2, "lead_paper": 2, "judge_lead": 3},
+    "leadscripts": {"lead_script": 3, "judge_script": 3, "is_tidy": 2, "tidy_script": 2},
+    "prices": {"price_of": 3, "lead_prices": 3, "cheapest_script": 3},
+    "choosing": {"callers_on": 2, "callers_barring": 2, "lost_by": 3, "fewest_callers": 2, "most_callers": 2},
+    "between": {"is_between": 3, "all_between": 2, "nearest_of": 2},
+    "lastcalls": {"last_calls": 1, "last_script": 2},
 }
 CLASSES = {
     "standings": {"Standing": {"__init__": 1, "people": 0, "names": 0, "place": 1, "voice": 1, "has_name": 1,
