@@ -18,8 +18,10 @@ def is_between(one, third, other):
 
 
 def all_between(one, other):
-    """Return the list of all standings between one and other, ordered by the places of all people."""
-    lead_bounds(one, other)
+    """Return the list of all standings between one and other, ordered by the places of all people.
+
+    Raises what callers_on raises where one does not lead to other.
+    """
     found = {places_in_order(one): one}
     waiting = [one]
     while waiting:
@@ -36,8 +38,6 @@ def all_between(one, other):
 
 def nearest_of(one, standings):
     """Return the place in the list of the first standing that is reached by the fewest calls, None if none is."""
-    for other in standings:
-        ask_like_people(one, other)
     best = None
     for k, other in enumerate(standings):
         if not leads(one, other):

@@ -24,5 +24,4 @@ def counts_by_place(standing):
         return []
     counts = EndCounts(standing)
     # The first place goes one step right at each call but those of the first crowd.
-    found = [(places[0] + odd_sum(standing) - level, counts.at_level(level)) for level in reversed(counts.levels())]
-    return [(place, many) for place, many in found if many > 0]
+    return [(places[0] + odd_sum(standing) - level, counts.at_level(level)) for level in reversed(counts.levels())]

@@ -41,7 +41,10 @@ class EndCounts:
         return found
 
     def levels(self):
-        """Return the list of all levels from which there may be ends, ascending."""
+        """Return the list of the levels of ends, ascending: all up to the greatest height.
+
+        From where that height is to the last place, the heights go down by ones through all that the steps need.
+        """
         return list(range(self._highest + 1))
 
     def by_width(self, level):

@@ -100,13 +100,13 @@ def lead_bounds(one, other):
 def judge_lead(one, other, value):
     """Tell whether a value, which may be anything, is a right lead paper."""
     ask_like_people(one, other)
-    if not isinstance(value, tuple) or not value or not isinstance(value[0], str):
+    if not isinstance(value, tuple) or not value:
         return False
     if value[0] == "order":
         return len(value) == 3 and _breaks_order(one, other, value[1], value[2])
     ahead = _paper_ahead_of_bounds(one, other)
     if ahead is not None:
-        return ahead == ("sum",) and value == ahead
+        return value == ahead
     bounds = _bounds(one, other)
     if value[0] == "leads":
         return len(value) == 2 and _keeps_all(bounds, value[1])

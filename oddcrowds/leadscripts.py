@@ -73,12 +73,12 @@ def _position(standing, name):
 
 def is_tidy(standing, value):
     """Tell whether a value, which may be anything, is a tidy script at a standing."""
-    if not isinstance(value, (list, tuple)) or first_bad(standing, value) is not None:
+    if first_bad(standing, value) is not None:
         return False
     rows = [[position for position in (FIRST, BETWEEN, LAST) if share[position] > 0]
             for share in shares_of_rows(standing, value)]
-    ahead = rows.count([BETWEEN])
-    return rows[:ahead] == [[BETWEEN]] * ahead and rows[ahead:] in ([], [[FIRST]], [[LAST]], [[FIRST], [LAST]])
+    # Where no row between stands behind so many rows, they are all those between.
+    return rows[rows.count([BETWEEN]):] in ([], [[FIRST]], [[LAST]], [[FIRST], [LAST]])
 
 
 def tidy_script(standing, script):

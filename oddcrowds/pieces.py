@@ -1,4 +1,4 @@
-"""Scripts that are made piece by piece: what lies between two stretches that are kept falls for itself."""
+"""Scripts that are made piece by piece, so that they are tidy."""
 
 from oddcrowds.standings import crowd_names
 
@@ -9,12 +9,11 @@ def tidy_rows(one, losses, calls_of_first):
     That many calls must be able to do it.
     """
     names = crowd_names(one)
-    rows = []
-    over = 0
-    for piece in _pieces(losses, _cuts(losses, calls_of_first)):
-        rows_between, over = _fallen(piece, losses.signs, names)
-        rows.extend(rows_between)
-    # What is over of the first piece are just the steps that the first crowd takes.
+    left, right = _parted(losses, calls_of_first)
+    rows, _ = _fallen(left, losses.signs, names)
+    rows_right, over = _fallen(right, losses.signs, names)
+    rows.extend(rows_right)
+    # What is over on the left are just the odd steps that the first crowd takes.
     if calls_of_first > 0:
         rows.append((names[0], calls_of_first))
     if over > 0:
@@ -22,37 +21,27 @@ def tidy_rows(one, losses, calls_of_first):
     return rows
 
 
-def _cuts(losses, calls_of_first):
-    """Return the dict from each gap within which a piece ends to how many of its lost steps fall on its left.
+def _parted(losses, height):
+    """Return the steps that are lost left of the first integer with a height, and those right of it.
 
-    These are the kept gaps; if there are none, it is one gap with the height up to which the first crowd calls.
+    Heights count lost steps alone here. Both are lists of pairs (gap, how many steps), from left to right.
     """
-    heights = losses.heights()
-    cuts = {gap: abs(calls_of_first - heights[gap]) for gap, kept in enumerate(losses.kept) if kept > 0}
-    if cuts:
-        return cuts
-    for gap, (start, goal) in enumerate(zip(heights, heights[1:])):
-        if min(start, goal) <= calls_of_first <= max(start, goal):
-            return {gap: abs(calls_of_first - start)}
-    return {}
-
-
-def _pieces(losses, cuts):
-    """Return the pieces from left to right, each as a list of pairs (gap, how many of its steps)."""
-    found = [[]]
-    for gap, lost in enumerate(losses.lost):
-        if gap in cuts:
-            found[-1].append((gap, cuts[gap]))
-            found.append([(gap, lost - cuts[gap])])
-        else:
-            found[-1].append((gap, lost))
-    return found
+    left = []
+    right = []
+    missing = height
+    for gap, (lost, sign) in enumerate(zip(losses.lost, losses.signs)):
+        on_left = lost if sign == -1 and missing > 0 else min(lost, missing)
+        missing -= sign * on_left
+        left.append((gap, on_left))
+        right.append((gap, lost - on_left))
+    return left, right
 
 
 def _fallen(piece, signs, names):
     """Return the rows of crowds between unlike gaps of a piece, as long as there are any, and how many steps are over.
 
-    What is over are steps of like gaps.
+    What waits are steps of like gaps. So nothing waits at what is left of a kept gap: ahead of it as many odd steps
+    as even ones are lost in the piece. Therefore all gaps between two that lose steps together are gone.
     """
     rows = []
     waiting = []
@@ -61,7 +50,6 @@ def _fallen(piece, signs, names):
         while left > 0 and waiting and signs[waiting[-1][0]] != signs[gap]:
             near, many = waiting.pop()
             times = min(many, left)
-            # All gaps between the two are gone, so this is one crowd.
             rows.append((names[near + 1], times))
             left -= times
             if many > times:

@@ -2,7 +2,7 @@ import random
 import unittest
 
 import plain
-from oddcrowds.calls import called, callers
+from oddcrowds.calls import called
 from oddcrowds.choosing import callers_barring, callers_on, fewest_callers, lost_by, most_callers
 from oddcrowds.errors import BadCall, NoLead, UnknownName, UnlikePeople
 from oddcrowds.leading import judge_lead, lead_bounds, leads
@@ -67,9 +67,10 @@ class ChoosingTest(unittest.TestCase):
             behind = {name: plain.numbers_from(plain.called(people, name)) for name in plain.callers(people)}
             for row in lot.sample(sorted(told), min(10, len(told))):
                 on = [name for name in behind if row in behind[name]]
-                lost = {name: (min(behind[name][row]) - (min(told[row]) - 1), max(told[row]) - 1 - max(behind[name][row]))
-                        for name in on}
-                self.check(people, [place for _, place, _ in row], on, [name for name in behind if name not in on], lost)
+                barring = [name for name in behind if name not in on]
+                lost = {name: (min(behind[name][row]) - (min(told[row]) - 1),
+                               max(told[row]) - 1 - max(behind[name][row])) for name in on}
+                self.check(people, [place for _, place, _ in row], on, barring, lost)
                 if row != tuple(people):
                     self.assertTrue(on)
                     self.assertIn(0, [early for early, _ in lost.values()])

@@ -261,7 +261,8 @@ class JudgeTest(unittest.TestCase):
                    [("clash", 1, "first"), ("clash", "first", 0), ("clash", "first", True), ("clash", "first", "last"),
                     ("clash", "last", 1), ("clash", 0, 1), ("clash", "first", "top"), ("clash", "first", "moved"),
                     ("clash", "first", 2), ("clash", "first", -1), ("clash", False, 1), ("sum",), ("leads", -1),
-                    ("leads", 0), ("clash", "first"), ("clash", "first", "1")])
+                    ("leads", 0), ("clash", "first"), ("clash", "first", "1"), ("Clash", "first", 1), ("", "first", 1),
+                    (None, "first", 1), ("first", "first", 1), ("leads", "first", 1)])
         self.check(T, (3, 3, 3, 3), [("clash", "first", "moved")],
                    [("clash", "moved", "first"), ("clash", "first", "last"), ("clash", "moved", "last"),
                     ("clash", "moved", "moved"), ("clash", "first", "top"), ("clash", "first", 1)])

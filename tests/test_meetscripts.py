@@ -98,8 +98,8 @@ class MeetScriptTest(unittest.TestCase):
             self.check_three_numbers(crowded(lot, 40, 2))
 
     def test_forty_people_one_by_one(self):
-        for voices in [[1] * 39 + [0], [0] + [1] * 39, [k % 2 for k in range(39)] + [0], [1, 1, 0, 0] * 9 + [1, 0, 0, 0],
-                       [0] * 20 + [1] + [0] * 19, [1, 0, 0] * 13 + [0]]:
+        for voices in [[1] * 39 + [0], [0] + [1] * 39, [k % 2 for k in range(39)] + [0],
+                       [1, 1, 0, 0] * 9 + [1, 0, 0, 0], [0] * 20 + [1] + [0] * 19, [1, 0, 0] * 13 + [0]]:
             people = [("p" + str(k), k * 10 ** 28 + k * k, voice) for k, voice in enumerate(voices)]
             self.check_three_numbers(people)
             self.check_three_numbers(people[::-1])

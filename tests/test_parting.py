@@ -91,10 +91,11 @@ class IsEndTest(unittest.TestCase):
             self.assertIs(is_end(Standing(people), at(people, places)), told)
 
     def test_example(self):
-        for places, told in [((2, 2, 2, 2), True), ((1, 1, 1, 1), True), ((1, 1, 2, 2), True), ((2, 2, 3, 3), False),
-                             ((0, 0, 0, 0), False), ((0, 0, 1, 1), False), ((0, 1, 2, 3), False), ((1, 1, 1, 2), False),
-                             ((3, 3, 3, 3), False), ((1, 1, 3, 3), False), ((2, 2, 1, 1), False), ((1, 2, 1, 2), False)]:
-            self.check(T, places, told)
+        for places in [(2, 2, 2, 2), (1, 1, 1, 1), (1, 1, 2, 2)]:
+            self.check(T, places, True)
+        for places in [(2, 2, 3, 3), (0, 0, 0, 0), (0, 0, 1, 1), (0, 1, 2, 3), (1, 1, 1, 2), (3, 3, 3, 3), (1, 1, 3, 3),
+                       (2, 2, 1, 1), (1, 2, 1, 2)]:
+            self.check(T, places, False)
 
     def test_nobody_and_quiet_ones(self):
         self.assertIs(is_end(Standing([]), Standing([])), True)

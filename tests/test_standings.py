@@ -2,8 +2,8 @@ import copy
 import unittest
 
 from oddcrowds.errors import BadStanding, UnknownName
-from oddcrowds.standings import (Standing, are_like, crowd_names, moved_person, shifted_standing, turned_standing, voiced,
-                                 with_person, without_person)
+from oddcrowds.standings import (Standing, are_like, crowd_names, moved_person, shifted_standing, turned_standing,
+                                 voiced, with_person, without_person)
 from values import anything, integers, no_integers, no_words, words
 
 FAR = 10 ** 30
