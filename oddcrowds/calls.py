@@ -53,15 +53,19 @@ def times_of(standing, name):
         return 0
     places = standing.places()
     # Each call makes the sum of all gaps less by at least one.
-    _, made = called_up_to(standing, name, places[-1] - places[0])
+    _, made = called_up_to(standing, name, places[-1] - places[0], can_call)
     return made
 
 
-def called_up_to(standing, name, most):
-    """Return the standing behind as many calls of a crowd as can be made, at most so many, and their number."""
+def called_up_to(standing, name, most, may_call):
+    """Return the standing behind as many calls of a crowd as may be made, at most so many, and their number.
+
+    may_call(standing, name) tells whether the crowd of a person may call; behind a call this changes only if a gap
+    beside the crowd is gone.
+    """
     behind = standing
     made = 0
-    while made < most and can_call(behind, name):
+    while made < most and may_call(behind, name):
         behind, times = called_stretch(behind, name, most - made)
         made += times
     return behind, made

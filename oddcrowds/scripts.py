@@ -1,6 +1,6 @@
 """Scripts: rows of calls that are done one after the other, and their texts."""
 
-from oddcrowds.calls import called_up_to
+from oddcrowds.calls import called_up_to, can_call
 from oddcrowds.errors import BadCall
 from oddcrowds.reading import Reader
 from oddcrowds.words import is_number
@@ -8,7 +8,7 @@ from oddcrowds.words import is_number
 
 def standings_along(standing, script):
     """Return the list of the standings that a script comes through, the given one first."""
-    found, bad = _followed(standing, script)
+    found, bad = followed(standing, script, can_call)
     if bad is not None:
         raise BadCall(bad)
     return found
@@ -26,29 +26,32 @@ def first_bad(standing, value):
     """
     if not isinstance(value, (list, tuple)):
         return 0
-    _, bad = _followed(standing, value)
+    _, bad = followed(standing, value, can_call)
     return bad
 
 
-def _followed(standing, script):
-    """Return the standings ahead of the first bad member and behind each row there, and its number or None."""
+def followed(standing, script, may_call):
+    """Return the standings ahead of the first bad member and behind each row there, and its number or None.
+
+    may_call(standing, name) tells whether the crowd of a person may call.
+    """
     found = [standing]
     for k, row in enumerate(script):
-        behind = _behind_row(found[-1], row)
+        behind = behind_row(found[-1], row, may_call)
         if behind is None:
             return found, k
         found.append(behind)
     return found, None
 
 
-def _behind_row(standing, row):
-    """Return the standing behind a row of calls, None if it is no row or cannot be made whole."""
+def behind_row(standing, row, may_call):
+    """Return the standing behind a row of calls, None if it, which may be anything, is none that can be made whole."""
     if not isinstance(row, tuple) or len(row) != 2:
         return None
     name, times = row
     if not standing.has_name(name) or not is_number(times) or times == 0:
         return None
-    behind, made = called_up_to(standing, name, times)
+    behind, made = called_up_to(standing, name, times, may_call)
     return behind if made == times else None
 
 
