@@ -17,17 +17,18 @@ class Reader:
         self._length = len(text)
         self._taken = 0
 
-    def _is_over(self):
+    def is_over(self):
+        """Tell whether all lexemes are taken that stand ahead of the first character that begins none."""
         return self._taken == len(self._found)
 
     def _here(self):
-        if self._is_over():
+        if self.is_over():
             return self._end
         return self._found[self._taken][2]
 
     def is_next(self, lexeme):
         """Tell whether this is the next lexeme."""
-        return not self._is_over() and self._found[self._taken][1] == lexeme
+        return not self.is_over() and self._found[self._taken][1] == lexeme
 
     def accepts(self, lexeme):
         """Take the next lexeme if it is this one, and tell whether it was."""
@@ -42,7 +43,7 @@ class Reader:
             raise BadText(self._here())
 
     def _take_kind(self, kind):
-        if self._is_over() or self._found[self._taken][0] != kind:
+        if self.is_over() or self._found[self._taken][0] != kind:
             raise BadText(self._here())
         self._taken += 1
         return self._found[self._taken - 1][1]
@@ -69,5 +70,5 @@ class Reader:
 
     def finish(self):
         """Raise BadText if anything but blanks and line feeds is left."""
-        if not self._is_over() or self._end < self._length:
+        if not self.is_over() or self._end < self._length:
             raise BadText(self._here())

@@ -24,15 +24,16 @@ def read_standing(text):
     reader.take("{")
     people = []
     while not reader.accepts("}"):
-        people.append(_take_person(reader))
+        people.append(take_person(reader))
+        reader.take(";")
     reader.finish()
     return Standing(people)
 
 
-def _take_person(reader):
+def take_person(reader):
+    """Take a name, its place and perhaps its voice, and return the person."""
     name = reader.take_word()
     reader.take("at")
     place = reader.take_place()
     voice = 1 if reader.accepts("voice") else 0
-    reader.take(";")
     return (name, place, voice)

@@ -115,6 +115,7 @@ class ImportsTest(unittest.TestCase):
 class CodeTest(unittest.TestCase):
     def test_module_level(self):
         for path in files():
+            earlier = []
             for k, part in enumerate(tree_of(path).body):
                 with self.subTest(path.name, line=part.lineno):
                     if k == 0:
@@ -124,7 +125,23 @@ class CodeTest(unittest.TestCase):
                     self.assertIsInstance(part, (ast.ImportFrom, ast.FunctionDef, ast.ClassDef, ast.Assign))
                     if isinstance(part, ast.Assign):
                         self.assertEqual(len(part.targets), 1)
-                        ast.literal_eval(part.value)
+                        self.assert_plain(part.value, earlier)
+                    if isinstance(part, ast.FunctionDef):
+                        earlier.append(part.name)
+
+    def assert_plain(self, value, functions):
+        """A plain value, or a dict of such and of functions that are defined above it, or a power."""
+        if isinstance(value, ast.Dict):
+            for part in value.keys + value.values:
+                self.assert_plain(part, functions)
+        elif isinstance(value, ast.Name):
+            self.assertIn(value.id, functions)
+        elif isinstance(value, ast.BinOp):
+            self.assertIsInstance(value.op, ast.Pow)
+            self.assertLessEqual(ast.literal_eval(value.right), 64)
+            ast.literal_eval(value.left)
+        else:
+            ast.literal_eval(value)
 
     def test_builtins(self):
         for file, node in all_nodes():

@@ -34,6 +34,18 @@ FUNCTIONS = {
     "choosing": {"callers_on": 2, "callers_barring": 2, "lost_by": 3, "fewest_callers": 2, "most_callers": 2},
     "between": {"is_between": 3, "all_between": 2, "nearest_of": 2},
     "lastcalls": {"last_calls": 1, "last_script": 2},
+    "allloud": {"free_called": 2, "free_numbers": 1, "free_numbers_at": 2, "can_meet_free": 3, "free_paper": 3},
+    "freescripts": {"free_walked": 2, "free_script": 3, "judge_free": 4},
+    "freeleads": {"free_lead_numbers": 2, "free_lead_script": 3},
+    "freehistories": {"count_free": 2, "free_counts": 2, "is_free_history": 3},
+    "histories": {"count_histories": 2, "counts_by_calls": 2, "is_history": 3},
+    "historynumbers": {"history_at": 3, "history_number": 3, "next_history": 3, "drawn_history": 3},
+    "falltables": {"fall_table": 2, "judge_table": 3, "count_with": 3, "table_history": 3},
+    "tablelists": {"fall_tables": 2},
+    "exchanges": {"can_exchange": 3, "are_alike": 3, "exchange_path": 3},
+    "wishes": {"wished_steps": 2, "wished_voices": 2, "places_by_voices": 1, "judge_wish": 3},
+    "goals": {"left_to": 2, "wastes": 4},
+    "acts": {"act_word": 2, "state_after": 2},
 }
 CLASSES = {
     "standings": {"Standing": {"__init__": 1, "people": 0, "names": 0, "place": 1, "voice": 1, "has_name": 1,
@@ -42,6 +54,11 @@ CLASSES = {
                "NothingDone": {}, "BadStanding": {"__init__": 1}, "NoLead": {"__init__": 1},
                "BadCall": {"__init__": 1}, "BadNumber": {"__init__": 2}, "BadText": {"__init__": 1},
                "BadAct": {"__init__": 1}, "NameMissing": {}, "UnknownName": {"__init__": 1}},
+    "house": {"House": {"__init__": 1, "standing": 0, "goal": 0, "state": 0, "do": 1, "undo": 0, "redo": 0, "done": 0,
+                        "undone": 0, "tried": 1, "would": 1, "made": 0, "meets": 0, "parts": 0, "least_left": 0,
+                        "most_left": 0, "early_waste": 0, "late_waste": 0, "callers_on": 0, "keep": 1, "marks": 0,
+                        "marked": 1, "left_to_mark": 1, "twin": 0, "__eq__": 1}},
+    "console": {"Console": {"__init__": 1, "house": 0, "say": 1}},
 }
 
 
