@@ -50,4 +50,4 @@ def _rows_of_runs(losses, first):
             height = sign * (lost - on_left)
     # What is over falls with steps that the last crowd takes.
     runs.append((len(losses.lost), -1 if height > 0 else 1, abs(height)))
-    return [[run for run in runs if run[2] > 0] for runs in [*found, runs]]
+    return [[run for run in row if run[2] > 0] for row in [*found, runs]]
