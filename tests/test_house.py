@@ -514,6 +514,15 @@ class TwinTest(unittest.TestCase):
         self.assertIs(House(Standing([])) == House(Standing([])), True)
         self.assertIs(house == house.twin().twin(), True)
 
+    def test_a_twin_of_a_new_house(self):
+        for people in [[], S]:
+            house = House(Standing(people))
+            twin = house.twin()
+            self.assertIs(house == twin, True)
+            self.assertEqual(twin.state(), (Standing(people), None))
+            twin.keep("a")
+            self.assertEqual(house.marks(), [])
+
     def test_a_twin_goes_its_own_way(self):
         changes = [lambda one: one.undo(), lambda one: one.redo(), lambda one: one.do(("call", "dan", 1)),
                    lambda one: one.keep("start"), lambda one: one.keep("new"), lambda one: one.tried([("goal", None)])]
